@@ -65,7 +65,7 @@ func doer(c int) func(*doing) int {
 	case bytecode.Join:
 		return (*doing).join
 	case bytecode.Print:
-		return (*doing).print
+		return (*doing).say
 	}
 	return (*doing).compute
 }
@@ -363,7 +363,7 @@ func (d *doing) join() int {
 	return d.went(1)
 }
 
-func (d *doing) print() int {
+func (d *doing) say() int {
 	d.w.Print(d.Id, d.top(0).N)
 	return d.went(1)
 }
