@@ -286,22 +286,23 @@ func script(n *numbers, c layout.Config, methods, length int) []api.Move {
 		}
 		return layout.Code + 4*uint64(n.next(max(16, min(c.Code, 300))))
 	}
+	first, fetches := n.next(2)*n.next(8), 9+n.next(8) // some scripts fetch much, and do what is late first
 	for range length {
 		core := n.next(c.Cores)
-		switch n.next(20) {
-		case 0:
+		switch k := n.next(24); {
+		case k == 0:
 			l = append(l, api.Move{Kind: api.KAhead + n.next(5), Core: core, N: n.next(3), Addr: places()})
-		case 1:
+		case k == 1:
 			if n.next(4) == 0 {
 				l = append(l, api.Move{Kind: api.KInterrup, Core: core})
 			}
 			if n.next(6) == 0 {
 				l = append(l, api.Move{Kind: KHot, N: n.next(methods)})
 			}
-		case 2, 3, 4, 5, 6, 7, 8:
+		case k <= fetches:
 			l = append(l, api.Move{Kind: api.KFetch, Core: core, N: n.next(4)})
 		default:
-			l = append(l, api.Move{Kind: api.KDo, Core: core, N: n.next(12), Addr: uint64(n.next(8) / 7)})
+			l = append(l, api.Move{Kind: api.KDo, Core: core, N: first + n.next(12-first), Addr: uint64(n.next(8) / 7)})
 		}
 	}
 	return l
