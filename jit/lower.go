@@ -262,12 +262,15 @@ func (x *compiler) monitor() {
 	x.here()
 	x.Put(ins.Load(1, abi.Locals, x.value(x.depth-1)))
 	x.trapIf(ins.Zero(1), api.TNull)
+	then := x.lock
 	if x.o.Code == bytecode.Exit {
-		x.routine(abi.ToUnlock)
-		return
+		then = x.unlock
 	}
-	x.away(api.BL, abi.ToLock)
+	then()
 }
+
+func (x *compiler) lock()   { x.away(api.BL, abi.ToLock) }
+func (x *compiler) unlock() { x.routine(abi.ToUnlock) }
 
 func (x *compiler) thread() {
 	x.here()

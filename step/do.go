@@ -322,24 +322,20 @@ func (d *doing) length() int {
 	return d.went(1, number(int64(d.w.Len(o))))
 }
 
-func (d *doing) enter() int {
-	o := d.ref(0)
-	if o == 0 {
-		return d.traps(api.TNull)
-	}
-	if !d.w.Enter(d.Id, o) {
-		return Waits
-	}
-	return d.went(1)
-}
+func (d *doing) enter() int { return d.monitor(d.w.Enter, d.waits) }
+func (d *doing) exit() int  { return d.monitor(d.w.Exit, d.isNotHeld) }
 
-func (d *doing) exit() int {
+func (d *doing) waits() int     { return Waits }
+func (d *doing) isNotHeld() int { return d.traps(api.TMonitor) }
+
+// monitor asks for that of the topmost object, and does otherwise, if the world says no.
+func (d *doing) monitor(ask func(thread, o int) bool, otherwise func() int) int {
 	o := d.ref(0)
 	if o == 0 {
 		return d.traps(api.TNull)
 	}
-	if !d.w.Exit(d.Id, o) {
-		return d.traps(api.TMonitor)
+	if !ask(d.Id, o) {
+		return otherwise()
 	}
 	return d.went(1)
 }
