@@ -17,8 +17,11 @@ type doing struct {
 	in     api.Regs
 	effect sem.Effect
 	fails  bool // an STXR is let fail
-	ends   bool // a call has ended the core
+	how    int  // what a call lets the core do
 }
+
+// endAll is what a host tells that lets all cores end, with that which called. (The document says nothing of other numbers than Go, End and Wait.)
+const endAll = 3
 
 func (x *Machine) do(h Host, m api.Move) api.Errno {
 	c := &x.cores[m.Core]
@@ -36,8 +39,13 @@ func (x *Machine) do(h Host, m api.Move) api.Errno {
 	}
 	c.window[m.N].Done, c.window[m.N].Regs = true, d.effect.Regs
 	x.retire(m.Core)
-	if d.ends {
+	switch d.how {
+	case End:
 		c.runs = false
+	case endAll:
+		for k := range x.cores {
+			x.cores[k].runs = false
+		}
 	}
 	return api.OK
 }
@@ -168,6 +176,6 @@ func (d *doing) call(h Host) api.Errno {
 	if how == Wait {
 		return api.ErrNot
 	}
-	d.effect.Regs, d.ends = r, how == End
+	d.effect.Regs, d.how = r, how
 	return api.OK
 }

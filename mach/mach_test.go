@@ -31,6 +31,8 @@ func (h *host) Call(core, n int, r api.Regs) (api.Regs, int) {
 	case n == 9:
 		r.X[0] += 100
 		return r, End
+	case n == 7:
+		return r, endAll
 	case n == 8 && h.waits:
 		r.X[0] = 77
 		return r, Wait
@@ -448,6 +450,17 @@ func TestCallsP1103(t *testing.T) {
 	want(t, "ends", do(x, h, 0, 0), api.OK)
 	if x.Runs(0) || x.Fault(0) || x.Regs(0).X[0] != 102 || len(x.Took(0)) != 4 || !slices.Equal(h.calls, []int{8, 8, 3, 9}) {
 		t.Errorf("ended: %v %v", x.Regs(0).X[0], h.calls)
+	}
+}
+
+func TestAllEndP1103(t *testing.T) {
+	h := &host{}
+	x := made(t, "svc #7\nnop", "nop\nnop")
+	fetch(x, 1, 2)
+	fetch(x, 0, 1)
+	want(t, "ends", do(x, h, 0, 0), api.OK)
+	if x.Runs(0) || x.Runs(1) || x.Fault(1) || len(x.Took(0)) != 1 || do(x, h, 1, 0) != api.ErrNot {
+		t.Error("all end")
 	}
 }
 

@@ -8,6 +8,9 @@ import (
 	"brazier/mach"
 )
 
+// endAll lets all cores of a machine end.
+const endAll = 3
+
 // Call does what a core asks for: nothing any more when the status is definite.
 func (r *run) Call(core, n int, regs api.Regs) (api.Regs, int) {
 	if r.isDefinite() {
@@ -17,7 +20,7 @@ func (r *run) Call(core, n int, regs api.Regs) (api.Regs, int) {
 	switch n {
 	case abi.Trap:
 		r.status = api.Status{Kind: api.STrap, Trap: int(x[0]), Method: int(x[1]), Code: int(x[2])}
-		return regs, mach.End
+		return regs, endAll
 	case abi.End:
 		r.end(core)
 		return regs, mach.End

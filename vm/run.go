@@ -114,27 +114,3 @@ func (r *run) play(m api.Move) api.Errno {
 	r.methods[m.N].hot = true
 	return api.OK
 }
-
-// round does a round as the machine drives it, but not on when the status is definite: whether some move was OK.
-func (r *run) round() bool {
-	before := r.Moves()
-	for core := range r.c.Cores {
-		for range 3 {
-			r.play(api.Move{Kind: api.KFetch, Core: core})
-			r.doFirst(core)
-		}
-		for range r.Side().Waiting(core) {
-			r.play(api.Move{Kind: api.KDeliver, Core: core})
-		}
-	}
-	return r.Moves() > before
-}
-
-// doFirst does the first instruction of a core's window that may be done.
-func (r *run) doFirst(core int) {
-	for at, i := range r.Window(core) {
-		if !i.Done && r.play(api.Move{Kind: api.KDo, Core: core, N: at}) == api.OK {
-			return
-		}
-	}
-}

@@ -383,6 +383,11 @@ func TestEndsP2703(t *testing.T) {
 	if s := v.Drive(100000); s != (api.Status{Kind: api.STrap, Trap: api.TDivide, Code: 18}) {
 		t.Errorf("%+v", s)
 	}
+	for core := range 3 {
+		if v.Machine().Runs(core) {
+			t.Errorf("core %d runs behind a trap", core)
+		}
+	}
 	moves, events := v.Machine().Moves(), len(v.Events())
 	if v.Drive(100) != v.Status() || v.Machine().Moves() != moves || len(v.Events()) != events || v.Move(api.Move{Kind: api.KFetch, Core: 1}) != api.ErrNot {
 		t.Error("it goes on behind a trap")
