@@ -31,7 +31,7 @@ func TestCheckP201(t *testing.T) {
 		{api.Ins{Op: api.LDR, Imm: 32760}, true}, {api.Ins{Op: api.LDR, Imm: 32768}, false}, {api.Ins{Op: api.STR, Imm: 4}, false}, {api.Ins{Op: api.STR, Imm: -8}, false}, {api.Ins{Op: api.STR, M: 1}, false},
 		{api.Ins{Op: api.LDRB, Imm: 4095}, true}, {api.Ins{Op: api.LDRB, Imm: 4096}, false}, {api.Ins{Op: api.LDRR, M: 31}, true}, {api.Ins{Op: api.STRR, Imm: 8}, false},
 		{api.Ins{Op: api.LDAR, D: 1, N: 2}, true}, {api.Ins{Op: api.STLR, M: 1}, false}, {api.Ins{Op: api.LDXR, Imm: 8}, false}, {api.Ins{Op: api.STXR, D: 1, N: 2, M: 3}, true}, {api.Ins{Op: api.STXR, A: 3}, false},
-		{api.Ins{Op: api.DMB, Imm: 2}, true}, {api.Ins{Op: api.DMB, Imm: 3}, false}, {api.Ins{Op: api.DMB, N: 1}, false}, {api.Ins{Op: api.DC, N: 31}, true}, {api.Ins{Op: api.IC, N: 32}, false}, {api.Ins{Op: api.DC, D: 1}, false},
+		{api.Ins{Op: api.DMB}, true}, {api.Ins{Op: api.DMB, Imm: 2}, true}, {api.Ins{Op: api.DMB, Imm: -1}, false}, {api.Ins{Op: api.DMB, Imm: 3}, false}, {api.Ins{Op: api.DMB, N: 1}, false}, {api.Ins{Op: api.DC, N: 31}, true}, {api.Ins{Op: api.IC, N: 32}, false}, {api.Ins{Op: api.DC, D: 1}, false},
 		{api.Ins{Op: api.SVC, Imm: 65535}, true}, {api.Ins{Op: api.SVC, Imm: 65536}, false}, {api.Ins{Op: api.SVC, M: 1}, false},
 	} {
 		if got := Check(c.i); got != api.OK && got != api.ErrArg || (got == api.OK) != c.ok {

@@ -178,6 +178,11 @@ func TestFlowCleanP1003(t *testing.T) {
 	if w, _ := s.Told(0x1080); w != 7 {
 		t.Error("Clean tells it")
 	}
+	m.Load(0x1080, []byte{0x78, 0x56, 0x34, 0x12})
+	s.Flow(0x1080)
+	if w, _ := s.Told(0x1080); w != 0x12345678 {
+		t.Errorf("told: %x", w)
+	}
 	put(m, 0x201C, 8)
 	if s.Flow(0x203F) != api.OK {
 		t.Error("a line that may be executed in part")

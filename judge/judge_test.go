@@ -73,6 +73,22 @@ func expect(t *testing.T, what string, p api.Program, x Claim, want api.Errno, a
 
 const busy = "new 0;set 0;get 0;small 7;putf 0 1;get 0;getf 0 1;drop;get 0;enter;get 0;exit;small 2;newa 2;drop;get 0;spawn 1;join;small 3;print;ret"
 
+func TestArraysReplayP2101(t *testing.T) {
+	p := with(t, "small 2;newa 1;set 0;get 0;small 1;small 5;puta 1;get 0;small 1;geta 1;print;get 0;len;print;get 0;small 2;geta 1;drop;ret")
+	x := driven(t, p, 100)
+	expect(t, "an array of ints", p, x, api.OK, 0)
+	if x.Status.Trap != api.TBounds || Check(p, usual, x) != nil {
+		t.Errorf("%+v", x)
+	}
+	x.Status.Trap = api.TKind
+	expect(t, "another trap", p, x, api.ErrOrder, len(x.Events))
+	x.Status = api.Status{Kind: api.SDone}
+	expect(t, "trapped is not ended", p, x, api.ErrOrder, len(x.Events))
+	x.Status = api.Status{}
+	x.Events[0].Slot = -2
+	expect(t, "an array of refs", p, x, api.ErrOrder, 0)
+}
+
 func TestReplaysP2101(t *testing.T) {
 	p := with(t, busy, "get 0;getf 0 1;print;ret")
 	x := driven(t, p, 1000)
@@ -130,6 +146,14 @@ func TestThreadsReplayP2101(t *testing.T) {
 		expect(t, "left events", q, Claim{api.Status{}, nil, []api.Event{{Kind: api.ESpawn, Slot: slot, Value: 1, At: 1}}}, api.ErrOrder, 0)
 	}
 	expect(t, "two threads name each other", q, Claim{api.Status{}, nil, []api.Event{{Thread: 2, Kind: api.ESpawn, Slot: 0, Value: 1, At: 1}, {Thread: 1, Kind: api.ESpawn, Slot: 1, Value: 2, At: 2}}}, api.ErrOrder, 0)
+	expect(t, "thread 2 alone", p, Claim{api.Status{}, nil, []api.Event{{Kind: api.ESpawn, Slot: 1, Value: 2, At: 1}, {Thread: 2, Kind: api.EPrint, Value: 9, At: 2}}}, api.ErrValue, 1)
+	expect(t, "one too many", p, Claim{api.Status{}, nil, []api.Event{{Kind: api.ESpawn, Slot: 1, Value: 4, At: 1}}}, api.ErrOrder, 0)
+	three := with(t, "null;spawn 1;drop;ret", "null;spawn 1;drop;ret", "ret")
+	for _, slot := range []int{0, -1, 3, 1 << 40} {
+		// thread 1 is run ahead of thread 2, which has spawned it
+		l := []api.Event{{Kind: api.ESpawn, Slot: 1, Value: 2, At: 1}, {Thread: 2, Kind: api.ESpawn, Slot: slot, Value: 1, At: 2}}
+		expect(t, "no method that spawn may name", three, Claim{Events: l}, api.ErrOrder, 1)
+	}
 	expect(t, "thread 0 comes first", p, Claim{api.Status{}, nil, []api.Event{{Thread: 1, Kind: api.EPrint, Value: 9, At: 3}, {Kind: api.ESpawn, Slot: 1, Object: 4, Value: 1, At: 1}}}, api.ErrOrder, 1)
 }
 
@@ -171,7 +195,7 @@ func TestTrapsReplayP2101(t *testing.T) {
 	}{
 		{"null;getf 0 0;print;ret", api.Status{Kind: api.STrap, Trap: api.TNull, Code: 1}, true}, {"null;getf 0 0;print;ret", api.Status{Kind: api.STrap, Trap: api.TNull, Code: 0}, false}, {"null;getf 0 0;print;ret", api.Status{Kind: api.STrap, Trap: api.TKind, Code: 1}, false},
 		{"new 0;drop;ret", api.Status{Kind: api.STrap, Trap: api.TMemory}, true}, {"small 9;newa 1;drop;ret", api.Status{Kind: api.STrap, Trap: api.TMemory, Code: 2}, true}, {"new 0;drop;ret", api.Status{Kind: api.STrap, Trap: api.TThread}, false}, {"new 0;drop;ret", api.Status{Kind: api.STrap, Trap: api.TMemory, Code: 2}, false}, {"small -1;newa 1;drop;ret", api.Status{Kind: api.STrap, Trap: api.TMemory, Code: 2}, false}, {"small -1;newa 1;drop;ret", api.Status{Kind: api.STrap, Trap: api.TSize, Code: 2}, true},
-		{"null;spawn 1;drop;ret", api.Status{Kind: api.STrap, Trap: api.TThread, Code: 1}, true}, {"small 9;join;ret", api.Status{Kind: api.STrap, Trap: api.TThread, Code: 2}, true}, {"small 9;join;ret", api.Status{Kind: api.STrap, Trap: api.TMonitor, Code: 2}, false}, {"small 9;print;ret", api.Status{Kind: api.STrap, Trap: api.TThread, Code: 2}, false}, {"nop;ret", api.Status{Kind: api.STrap, Trap: api.TThread, Method: -5, Code: 99}, false},
+		{"null;spawn 1;drop;ret", api.Status{Kind: api.STrap, Trap: api.TThread, Code: 1}, true}, {"small 9;join;ret", api.Status{Kind: api.STrap, Trap: api.TThread, Code: 2}, true}, {"small 9;join;ret", api.Status{Kind: api.STrap, Trap: api.TMonitor, Code: 2}, false}, {"small 9;print;ret", api.Status{Kind: api.STrap, Trap: api.TThread, Code: 2}, false}, {"nop;ret", api.Status{Kind: api.STrap, Trap: api.TThread, Method: -5, Code: 99}, false}, {"small 9;print;ret", api.Status{Kind: api.STrap, Trap: api.TDivide, Code: 2}, false}, {"new 0;drop;ret", api.Status{Kind: api.STrap, Trap: 77}, false}, {"new 0;enter;new 0;exit;ret", api.Status{Kind: api.STrap, Trap: api.TMonitor}, false},
 	} {
 		want := api.ErrOrder
 		if c.ok {
@@ -229,6 +253,24 @@ func TestSeesReadsP2102(t *testing.T) {
 	}
 }
 
+func TestSeesOddSlotsP2102(t *testing.T) {
+	p := with(t, "ret")
+	none := api.Write{Core: -1}
+	for _, class := range []int{0, -1, -2, 1, 99} {
+		for _, slot := range []int{-1, 0, 3, 4, 99} {
+			// a read that comes ahead of what says whether it is volatile; two of them at one time are only wrong if they are
+			l := []api.Event{{Kind: api.EReadField, Object: 5, Slot: slot, From: none, At: 7}, {Thread: 1, Kind: api.EReadField, Object: 5, Slot: slot, From: none, At: 7}, {Thread: 1, Kind: api.ENew, Object: 5, Slot: class}}
+			want := api.OK
+			if class == 0 && slot == 3 {
+				want = api.ErrOrder
+			}
+			if e, at := Sees(p, Claim{Events: l}); e != want || at != 0 {
+				t.Errorf("class %d, slot %d: %v", class, slot, e)
+			}
+		}
+	}
+}
+
 func TestSeesOrderP2102(t *testing.T) {
 	p := with(t, "ret")
 	none := api.Write{}
@@ -246,7 +288,7 @@ func TestSeesOrderP2102(t *testing.T) {
 		{[]api.Event{enter(0, 1), enter(0, 2), exit(0, 3), exit(0, 4), enter(1, 5)}, api.OK, 0}, {[]api.Event{enter(0, 1), enter(1, 2)}, api.ErrOrder, 2}, {[]api.Event{enter(0, 1), other}, api.OK, 0}, {[]api.Event{enter(0, 1), enter(0, 2), exit(0, 3), enter(1, 4)}, api.ErrOrder, 4}, {[]api.Event{enter(1, 4), enter(0, 1), exit(0, 5)}, api.ErrOrder, 1}, {[]api.Event{enter(1, 4), enter(0, 1), exit(0, 3)}, api.OK, 0},
 		{[]api.Event{exit(0, 1)}, api.ErrOrder, 1}, {[]api.Event{enter(0, 1), exit(0, 2), exit(0, 3)}, api.ErrOrder, 3}, {[]api.Event{enter(0, 1), exit(1, 2)}, api.ErrOrder, 2},
 		{[]api.Event{spawn(0, 5, 1), enter(1, 6)}, api.OK, 0}, {[]api.Event{spawn(0, 5, 1), enter(1, 4)}, api.ErrOrder, 2}, {[]api.Event{enter(1, 4), spawn(0, 5, 1)}, api.ErrOrder, 1}, {[]api.Event{spawn(0, 5, 1), ev(1, api.EPrint, 0, 0, none, 2), ev(1, api.EWriteField, 0, 0, none, 2)}, api.OK, 0}, {[]api.Event{spawn(0, 5, 1), ev(1, api.EWriteField, 2, 0, none, 2)}, api.ErrOrder, 2},
-		{[]api.Event{enter(1, 4), join(0, 5, 1)}, api.OK, 0}, {[]api.Event{enter(1, 4), exit(1, 6), join(0, 5, 1)}, api.ErrOrder, 3}, {[]api.Event{join(0, 5, 2), join(0, 6, 77), join(0, 7, -1)}, api.OK, 0}, {[]api.Event{join(0, 5, 0)}, api.ErrOrder, 1}, {[]api.Event{ev(1, api.EPrint, 0, 0, none, 9), join(0, 5, 1)}, api.OK, 0},
+		{[]api.Event{enter(1, 4), join(0, 5, 1)}, api.OK, 0}, {[]api.Event{enter(1, 4), exit(1, 6), join(0, 5, 1)}, api.ErrOrder, 3}, {[]api.Event{join(0, 5, 2), join(0, 6, 77), join(0, 7, -1), join(0, 8, 4)}, api.OK, 0}, {[]api.Event{join(0, 5, 0)}, api.ErrOrder, 1}, {[]api.Event{ev(1, api.EPrint, 0, 0, none, 9), join(0, 5, 1)}, api.OK, 0},
 		{[]api.Event{exit(0, 1), ev(0, api.EReadField, 0, 9, none, 0)}, api.ErrOrder, 1}, {[]api.Event{ev(0, api.EReadField, 0, 9, none, 0), exit(0, 1)}, api.ErrSource, 1}, {[]api.Event{exit(0, 1), enter(1, 4), spawn(2, 5, 1)}, api.ErrOrder, 2},
 	} {
 		if e, at := Sees(p, sees(c.l...)); e != c.want || at != c.at {

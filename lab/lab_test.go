@@ -77,6 +77,9 @@ func TestConstP2301(t *testing.T) {
 		x.Const(1, c.v)
 		words(t, x, c.want...)
 	}
+	zero := New(0)
+	zero.Const(0, 9)
+	words(t, zero, movz(0, 9, 0))
 	x := New(0)
 	x.Const(30, 9)
 	words(t, x, movz(30, 9, 0))

@@ -65,6 +65,10 @@ func TestRunP1202(t *testing.T) {
 	if e != api.OK || !o.Ended || len(o.Regs) != 2 || o.Regs[0][3] != 1 || o.Regs[1][30] != 9 || !slices.Equal(o.Cells, []Cell{{x, 1}, {y, 8}}) {
 		t.Errorf("%+v %v", o, e)
 	}
+	o, _ = Run(Test{[]string{"nop"}, []Cell{{x + 24, 1}, {x + 8, 2}, {x, 3}, {x + 16, 4}, {x + 8, 5}}})
+	if !slices.Equal(o.Cells, []Cell{{x, 3}, {x + 8, 5}, {x + 16, 4}, {x + 24, 1}}) {
+		t.Errorf("%+v", o.Cells)
+	}
 	for p, ended := range map[string]int{"b #0": 0, "udf #0": 0, "ldr x1, x0, #0": 0, "svc #77": 1} {
 		if o, _ := Run(Test{Threads: []string{"nop", p}}); o.Ended != (ended == 1) {
 			t.Errorf("%q: %v", p, o.Ended)

@@ -350,6 +350,20 @@ func TestExclusiveP1103(t *testing.T) {
 	want(t, "fault", x.Fault(0), true)
 }
 
+func TestExclusiveRefusedP1103(t *testing.T) {
+	x := made(t, "ldxr x5, x3\nnop\nstxr x6, x2, x3")
+	fetch(x, 0, 3)
+	do(x, nil, 0, 0)
+	moves := x.Moves()
+	if do(x, nil, 0, 1) != api.ErrNot || x.Moves() != moves || x.Window(0)[1].Done || x.Fault(0) {
+		t.Error("a store that memory refuses, behind another")
+	}
+	do(x, nil, 0, 0)
+	if do(x, nil, 0, 0) != api.OK || !x.Fault(0) || x.Regs(0).X[6] != 0 {
+		t.Error("and as the first")
+	}
+}
+
 func TestMarkStaysP1101(t *testing.T) {
 	x := made(t, "ldxr x5, x1\nstr x1, x2, #0\nudf #0")
 	fetch(x, 0, 3)
@@ -475,6 +489,8 @@ func TestDriveP1105(t *testing.T) {
 	if x.Runs(0) || x.Runs(1) || x.Moves() != one+n || x.Regs(0).X[5] != 0 || x.Drive(h, 5) != 0 {
 		t.Errorf("driven: %d", n)
 	}
+	z := made(t, "ic x1\ndsb\nnop\nsvc #9", "nop\nsvc #9")
+	want(t, "the first place at which it is OK", z.Drive(h, 1), 3+2+1+2+2+1)
 	y := made(t, "movz x5, #3, 0\nsubsi x5, x5, #1\nb. 1, #-4\nsvc #9", "ic x1\ndsb\nsvc #9")
 	for range 1000 {
 		y.Drive(h, 1)

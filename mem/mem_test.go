@@ -90,7 +90,7 @@ func TestReadWriteP702(t *testing.T) {
 		if v, e := m.Read(c.addr); (e == api.OK) != c.read || e != api.OK && e != api.ErrFault || v != want {
 			t.Errorf("Read(%x): %x %v", c.addr, v, e)
 		}
-		if w, e := m.Word(c.addr); (e == api.OK) != c.word || e != api.OK && e != api.ErrFault || w != uint32(want) && c.word {
+		if w, e := m.Word(c.addr); (e == api.OK) != c.word || e != api.OK && e != api.ErrFault || w != uint32(want) && c.word || e != api.OK && w != 0 {
 			t.Errorf("Word(%x): %x %v", c.addr, w, e)
 		}
 	}
@@ -101,6 +101,15 @@ func TestReadWriteP702(t *testing.T) {
 	}
 	if w, _ := m.Word(0x3004); w != 0x11223344 {
 		t.Errorf("Word: %x", w)
+	}
+	m.Load(0x2000, []byte{1, 2, 3, 4, 5, 6, 7, 8})
+	for _, addr := range []uint64{0x2001, 0x2004, 0x2006} {
+		if v, e := m.Read(addr); v != 0 || e != api.ErrFault {
+			t.Errorf("Read(%x): %x %v", addr, v, e)
+		}
+	}
+	if w, e := m.Word(0x2002); w != 0 || e != api.ErrFault {
+		t.Errorf("Word: %x %v", w, e)
 	}
 	if b, e := m.Byte(0x3008); b != 0 || e != api.ErrFault {
 		t.Error("Byte of nowhere")

@@ -66,6 +66,8 @@ func TestSpawnJoinP1902(t *testing.T) {
 	check(t, []api.Event{ev(1, api.EPrint, 0), of(ev(2, api.EJoin, 1), 0, 0, 1), of(ev(0, api.ESpawn, 2), 0, 0, 1), of(ev(1, api.EEnter, 3), 0, 0, 0)}, Clock{0, 1}, Clock{0, 1, 1}, Clock{1}, Clock{0, 2})
 	// of several spawns the last one ahead of its first event
 	check(t, []api.Event{of(ev(0, api.ESpawn, 1), 0, 0, 2), of(ev(1, api.ESpawn, 2), 0, 0, 2), of(ev(2, api.EEnter, 3), 7, 0, 0), of(ev(0, api.ESpawn, 4), 0, 0, 2), ev(2, api.EPrint, 0)}, Clock{1}, Clock{0, 1}, Clock{0, 1, 1}, Clock{2}, Clock{0, 1, 2})
+	// thread 0 is joined as the others are; what is one too many is nobody
+	check(t, []api.Event{of(ev(1, api.EJoin, 1), 0, 0, 0), ev(0, api.EPrint, 0), of(ev(1, api.ESpawn, 2), 0, 0, 4), of(ev(1, api.EJoin, 3), 0, 0, 4)}, Clock{1, 1}, Clock{1}, Clock{1, 2}, Clock{1, 3})
 	// thread 0 is spawned by nobody; itself, and what is no thread, is not joined
 	check(t, []api.Event{of(ev(1, api.ESpawn, 1), 0, 0, 0), ev(0, api.EPrint, 0), of(ev(1, api.EJoin, 2), 0, 0, 1), of(ev(1, api.EJoin, 3), 0, 0, 4), of(ev(1, api.EJoin, 4), 0, 0, -1), of(ev(1, api.EJoin, 5), 0, 0, math.MinInt64), of(ev(1, api.ESpawn, 6), 0, 0, math.MaxInt64)}, Clock{0, 1}, Clock{1}, Clock{0, 2}, Clock{0, 3}, Clock{0, 4}, Clock{0, 5}, Clock{0, 6})
 }

@@ -252,6 +252,68 @@ func TestOrderedReadsP2003(t *testing.T) {
 	}
 }
 
+func TestMonitorsP2002(t *testing.T) {
+	m := made2(t, usual, "new 0;set 0;get 0;spawn 1;drop;get 0;enter;get 0;exit;ret", "get 0;enter;get 0;exit;ret")
+	steps(m, 0, 7)
+	steps(m, 1, 1)
+	n := len(m.History())
+	if how, s := m.Step(Pick{Thread: 1}); how != step.Waits || s != (api.Status{}) || len(m.History()) != n {
+		t.Error("another thread holds it")
+	}
+	steps(m, 0, 2)
+	if how, _ := m.Step(Pick{Thread: 1}); how != step.Went {
+		t.Error("nobody holds it")
+	}
+	m = made2(t, usual, "new 0;set 0;get 0;spawn 1;drop;get 0;enter;get 0;exit;ret", "new 0;enter;get 0;exit;ret")
+	steps(m, 0, 7)
+	steps(m, 1, 3)
+	if how, s := m.Step(Pick{Thread: 1}); how != step.Trap || s != (api.Status{Kind: api.STrap, Trap: api.TMonitor, Method: 1, Code: 5}) {
+		t.Errorf("another's monitor: %+v", s)
+	}
+}
+
+func TestSpawnedP2002P2004(t *testing.T) {
+	m := made2(t, usual, "new 0;set 0;get 0;spawn 1;drop;ret", "get 0;get 0;putf 0 3;ret")
+	m.Drive(100)
+	if h := m.History(); h[2] != (api.Event{Thread: 1, Kind: api.EWriteField, Object: 1, Slot: 3, Value: 1, Ref: true, From: api.Write{Core: 1, N: 1}, At: 3}) {
+		t.Errorf("%+v", h)
+	}
+	// thread 1 joins thread 2, which has done nothing that can be seen: what was ahead of its spawn is not known by that
+	m = made2(t, usual, "new 0;set 0;get 0;spawn 1;drop;get 0;small 5;putf 0 0;null;spawn 2;drop;ret", "small 2;join;get 0;getf 0 0;print;ret", "ret")
+	steps(m, 0, 11)
+	steps(m, 2, 1)
+	steps(m, 1, 3)
+	if m.Choices(1) != 2 {
+		t.Errorf("%d choices", m.Choices(1))
+	}
+	// it has printed: then what was ahead of that is known
+	m = made2(t, usual, "new 0;set 0;get 0;spawn 1;drop;get 0;small 5;putf 0 0;null;spawn 2;drop;ret", "small 2;join;get 0;getf 0 0;print;ret", "small 1;print;ret")
+	steps(m, 0, 11)
+	steps(m, 2, 3)
+	steps(m, 1, 3)
+	if m.Choices(1) != 1 {
+		t.Errorf("%d choices", m.Choices(1))
+	}
+}
+
+func TestChoicesChangesNothingP2003(t *testing.T) {
+	m := made2(t, usual, "new 0;set 0;get 0;enter;get 0;small 1;putf 0 0;get 0;getf 0 0;print;get 0;exit;small 2;newa 1;drop;null;spawn 1;join;ret", "small 1;print;ret")
+	for range 60 {
+		was := m.Twin()
+		for k := range 3 {
+			m.Choices(k)
+		}
+		if !slices.Equal(m.History(), was.History()) || !slices.Equal(m.Prints(), was.Prints()) || m.Status() != was.Status() || m.Threads() != was.Threads() {
+			t.Fatal("something has changed")
+		}
+		m.Step(Pick{})
+		m.Step(Pick{Thread: 1})
+	}
+	if m.Status().Kind != api.SDone {
+		t.Errorf("%+v", m.Status())
+	}
+}
+
 func TestRunDriveTwinP2005(t *testing.T) {
 	methods := []string{"new 0;set 0;get 0;spawn 1;drop;get 0;spawn 2;drop;small 10;print;small 11;print;ret", "small 20;print;small 21;print;ret", "small 30;print;small 31;print;ret"}
 	m := made2(t, usual, methods...)
