@@ -210,6 +210,31 @@ func TestMovesP2702(t *testing.T) {
 	}
 }
 
+func TestDriveP2702(t *testing.T) {
+	p := with(t, "small 9;set 2;get 2;small -1;add;dup;set 2;if -8;ret")
+	whole, rounds := made(t, p, usual), made(t, p, usual)
+	for n := range 20 {
+		if before := rounds.Machine().Moves(); n > 0 {
+			rounds.Drive(1)
+			if n == 1 && rounds.Machine().Moves() != 6 || rounds.Machine().Moves() == before {
+				t.Errorf("round %d: %d moves", n, rounds.Machine().Moves())
+			}
+		}
+		v := made(t, p, usual)
+		v.Drive(n)
+		if v.Machine().Moves() != rounds.Machine().Moves() {
+			t.Errorf("%d rounds: %d moves, not %d", n, v.Machine().Moves(), rounds.Machine().Moves())
+		}
+	}
+	if whole.Drive(1<<62) != (api.Status{Kind: api.SDone}) {
+		t.Error("up to the end")
+	}
+	stuck := made(t, with(t, "null;spawn 1;join;ret", "small 0;join;ret"), usual)
+	if stuck.Drive(1<<62) != (api.Status{}) {
+		t.Error("two that wait for each other")
+	}
+}
+
 func TestEventsP2703(t *testing.T) {
 	v := made(t, with(t, "new 0;set 0;get 0;small 7;putf 0 0;get 0;getf 0 0;drop;get 0;get 0;putf 0 3;get 0;getf 0 3;drop;get 0;getf 0 1;drop;get 0;enter;get 0;enter;get 0;exit;get 0;exit;small 2;newa 2;set 1;get 1;small 1;get 0;puta 2;small 1;newa 1;drop;get 1;spawn 1;join;small 3;print;ret", "ret"), usual)
 	if v.Drive(10000) != (api.Status{Kind: api.SDone}) || v.Threads() != 2 {
