@@ -159,6 +159,7 @@ var programs = [][]string{
 	{"small 1;small 2;lt;print;small 2;small 1;lt;print;const 0;const 1;lt;print;const 1;const 0;lt;print;small 4;small 4;eq;print;small 4;small 5;eq;print;null;null;same;print;new 0;null;same;print;null;isnull;print;new 1;isnull;print;ret"},
 	{"small 1;small 2;swap;print;print;small 9;dup;print;drop;jump 4;ret;jump 3;ret"},
 	{"small 1;small 2;call 2;print;ret", "ret", "get 0;get 1;small 10;mul;add;get 5;add;ret"}, {"small 6;small 1;call 2;print;ret", "ret", "get 0;if 6;get 1;ret;get 0;small -1;add;get 0;get 1;mul;call 2;ret"}, {"small 8;small 1;call 2;print;ret", "ret", "get 0;if 6;get 1;ret;get 0;small -1;add;get 0;get 1;mul;call 2;ret"},
+	{"small 5;set 2;small 9;set 3;small 7;small 1;small 2;call 2;get 2;add;print;get 3;print;print;ret", "ret", "get 0;set 5;get 0;get 1;call 3;get 5;add;get 1;sub;ret", "small 33;set 5;get 0;get 1;mul;get 5;add;ret"},
 	{"call 0;ret"}, {"null;call 1;small 3;print;ret", "get 0;isnull;print;ret"}, {"small 99;drop;null;call 1;ret", "get 3;print;get 4;print;get 1;isnull;print;ret"},
 	{"new 0;set 0;get 0;small 7;putf 0 0;get 0;getf 0 0;print;get 0;get 0;putf 0 1;get 0;getf 0 1;get 0;same;print;get 0;small 8;putf 0 2;get 0;getf 0 2;print;get 0;get 0;putf 0 3;get 0;getf 0 3;get 0;same;print;get 0;getf 0 0;print;ret"},
 	{"small 3;newa 1;set 0;get 0;len;print;get 0;small 2;small 9;puta 1;get 0;small 2;geta 1;print;get 0;small 0;geta 1;print;small 2;newa 2;set 1;get 1;small 1;get 0;puta 2;get 1;small 1;geta 2;get 0;same;print;ret"},

@@ -266,6 +266,7 @@ var programs = [][]string{
 	{"small 7;small 3;add;print;small 7;small 3;sub;print;small 7;small -3;mul;print;small -7;small 2;div;print;small -7;small 2;rem;print;const 0;small -1;div;print;const 0;small -1;rem;print;ret"},
 	{"small 1;small 2;call 2;print;ret", "ret", "get 0;get 1;small 10;mul;add;get 5;add;ret"}, {"small 6;small 1;call 2;print;ret", "ret", "get 0;if 6;get 1;ret;get 0;small -1;add;get 0;get 1;mul;call 2;ret"}, {"small 8;small 1;call 2;print;ret", "ret", "get 0;if 6;get 1;ret;get 0;small -1;add;get 0;get 1;mul;call 2;ret"},
 	{"small 5;set 2;get 2;small 3;call 2;print;get 2;small -1;add;dup;set 2;if -15;ret", "ret", "get 0;get 1;call 3;get 1;call 4;ret", "get 0;get 1;add;ret", "get 0;get 1;mul;ret"},
+	{"small 5;set 2;small 9;set 3;small 7;small 1;small 2;call 2;get 2;add;print;get 3;print;print;ret", "ret", "get 0;set 5;get 0;get 1;call 3;get 5;add;get 1;sub;ret", "small 33;set 5;get 0;get 1;mul;get 5;add;ret"},
 	{"call 0;ret"}, {"null;call 1;null;call 1;null;call 1;small 3;print;ret", "get 0;isnull;print;ret"},
 	{"new 0;set 0;get 0;small 7;putf 0 0;get 0;getf 0 0;print;get 0;get 0;putf 0 1;get 0;getf 0 1;get 0;same;print;get 0;small 8;putf 0 2;get 0;getf 0 2;print;get 0;get 0;putf 0 3;get 0;getf 0 3;get 0;same;print;get 0;getf 0 0;print;ret"},
 	{"small 3;newa 1;set 0;get 0;len;print;get 0;small 2;small 9;puta 1;get 0;small 2;geta 1;print;get 0;small 0;geta 1;print;ret"},
@@ -468,6 +469,42 @@ func TestCompilingP2704(t *testing.T) {
 	v = made(t, p, tight)
 	if v.Drive(100000).Kind != api.SDone || len(v.Pieces()) != 0 {
 		t.Error("no room at all")
+	}
+}
+
+// Whatever the number of words: all of them are laid.
+func TestLinesP2704(t *testing.T) {
+	for nops := range 17 {
+		p := with(t, "small 1;small 2;call 2;print;small 1;small 2;call 2;print;ret", "ret", strings.Repeat("nop;", nops)+"get 0;get 1;add;ret")
+		c := usual
+		c.Cores, c.Hot = 1, 1
+		v := made(t, p, c)
+		if s := v.Drive(100000); s.Kind != api.SDone || !slices.Equal(v.Prints(), []int64{3, 3}) || len(v.Pieces()) != 1 {
+			t.Errorf("%d nops: %+v %v", nops, s, v.Prints())
+		}
+		sound(t, c, v)
+	}
+}
+
+// The time of a call is the number of the move by which it is done.
+func TestTimesP2703(t *testing.T) {
+	v := made(t, with(t, "new 0;spawn 1;join;small 1;print;small 2;print;ret", "ret"), usual)
+	seen := 0
+	for v.Status().Kind == api.SRuns {
+		for core := range 2 {
+			for _, m := range []api.Move{{Kind: api.KFetch, Core: core}, {Kind: api.KDo, Core: core}} {
+				v.Move(m)
+				if l := v.Events(); len(l) > seen {
+					seen = len(l)
+					if e := l[seen-1]; e.At != v.Machine().Moves() {
+						t.Errorf("%+v by move %d", e, v.Machine().Moves())
+					}
+				}
+			}
+		}
+	}
+	if seen != 5 {
+		t.Errorf("%d events", seen)
 	}
 }
 
