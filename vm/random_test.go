@@ -211,6 +211,9 @@ func random(n *numbers, threads bool) api.Program {
 		switch {
 		case k == 0:
 			w.put(bytecode.New, 0, bytecode.Set, 0)
+			if n.next(4) > 0 { // a call by which the threads' method may be compiled
+				w.put(bytecode.New, 0, bytecode.Call, 1)
+			}
 		case k == 1:
 			m.Params, m.Locals = []int{api.TRef}, m.Locals[1:]
 		default: // its ints come first: they are moved to where the others have them

@@ -368,9 +368,19 @@ var threaded = [][]string{
 	{"new 0;set 0;get 0;spawn 1;drop;get 0;spawn 1;drop;new 0;drop;jump -3", "new 0;drop;jump -3"},
 }
 
+// warmed are such whose threads run compiled code, if one call is enough.
+var warmed = [][]string{
+	{"new 0;call 1;new 0;set 0;get 0;spawn 1;get 0;spawn 1;join;join;get 0;getf 0 0;print;ret", "small 5;set 3;get 0;enter;get 0;get 0;getf 0 0;small 1;add;putf 0 0;get 0;exit;get 3;small -1;add;dup;set 3;if -27;ret"},
+	{"new 0;call 1;new 0;set 0;get 0;spawn 1;get 0;spawn 1;join;join;ret", "get 0;small 1;putf 0 0;get 0;getf 0 0;print;get 0;small 2;putf 0 0;get 0;getf 0 0;print;get 0;small 3;putf 0 0;get 0;getf 0 0;print;ret"},
+	{"new 0;call 1;new 0;set 0;get 0;spawn 1;get 0;spawn 1;join;join;ret", "get 0;small 1;putf 0 2;get 0;getf 0 2;print;get 0;small 2;putf 0 2;get 0;getf 0 2;print;get 0;getf 0 0;print;get 0;small 3;putf 0 0;get 0;small 4;putf 0 2;ret"},
+	{"new 0;call 1;new 0;set 0;get 0;spawn 1;get 0;spawn 1;join;join;ret", "get 0;enter;get 0;exit;get 0;enter;get 0;small 1;putf 0 0;get 0;exit;get 0;enter;get 0;getf 0 0;print;get 0;exit;ret"},
+	{"new 0;call 1;new 0;set 0;get 0;spawn 1;get 0;spawn 1;join;join;ret", "new 0;set 1;get 1;small 5;putf 0 0;get 0;get 1;putf 0 1;get 0;getf 0 1;getf 0 0;print;new 1;set 2;get 0;get 1;putf 0 3;get 0;getf 0 3;getf 0 0;print;ret"},
+	{"new 0;call 1;new 0;set 0;new 0;set 1;get 0;get 1;putf 0 1;get 1;get 0;putf 0 1;get 0;spawn 1;get 1;spawn 1;join;join;ret", "get 0;getf 0 1;isnull;if 26;get 0;small 1;putf 0 0;get 0;getf 0 1;getf 0 0;print;get 0;small 2;putf 0 0;ret"},
+}
+
 func TestScriptsOfThreadsP2705(t *testing.T) {
 	n := numbers(77)
-	for _, methods := range threaded {
+	for _, methods := range slices.Concat(threaded, warmed) {
 		p := with(t, methods...)
 		for k := range 12 {
 			c := usual
