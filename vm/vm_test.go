@@ -375,6 +375,7 @@ var warmed = [][]string{
 	{"new 0;call 1;new 0;set 0;get 0;spawn 1;get 0;spawn 1;join;join;ret", "get 0;small 1;putf 0 2;get 0;getf 0 2;print;get 0;small 2;putf 0 2;get 0;getf 0 2;print;get 0;getf 0 0;print;get 0;small 3;putf 0 0;get 0;small 4;putf 0 2;ret"},
 	{"new 0;call 1;new 0;set 0;get 0;spawn 1;get 0;spawn 1;join;join;ret", "get 0;enter;get 0;exit;get 0;enter;get 0;small 1;putf 0 0;get 0;exit;get 0;enter;get 0;getf 0 0;print;get 0;exit;ret"},
 	{"new 0;call 1;new 0;set 0;get 0;spawn 1;get 0;spawn 1;join;join;ret", "new 0;set 1;get 1;small 5;putf 0 0;get 0;get 1;putf 0 1;get 0;getf 0 1;getf 0 0;print;new 1;set 2;get 0;get 1;putf 0 3;get 0;getf 0 3;getf 0 0;print;ret"},
+	{"new 0;set 0;get 0;small 4;newa 1;putf 0 3;get 0;call 1;get 0;spawn 1;get 0;spawn 1;join;join;ret", "get 0;getf 0 3;set 1;get 1;small 1;small 7;puta 1;get 1;small 1;geta 1;print;get 1;small 1;small 8;puta 1;get 1;small 1;geta 1;print;get 1;small 1;small 9;puta 1;get 1;small 1;geta 1;print;ret"},
 	{"new 0;call 1;new 0;set 0;new 0;set 1;get 0;get 1;putf 0 1;get 1;get 0;putf 0 1;get 0;spawn 1;get 1;spawn 1;join;join;ret", "get 0;getf 0 1;isnull;if 26;get 0;small 1;putf 0 0;get 0;getf 0 1;getf 0 0;print;get 0;small 2;putf 0 0;ret"},
 }
 
