@@ -19,7 +19,7 @@ type place struct {
 
 // find tells which word of which object an address is.
 func (r *run) find(addr uint64) (place, bool) {
-	if layout.Which(r.c, addr) != 4 || addr >= layout.Heap+8*uint64(len(r.owners)) {
+	if addr < layout.Heap || addr-layout.Heap >= 8*uint64(len(r.owners)) {
 		return place{}, false
 	}
 	n := r.owners[(addr-layout.Heap)/8]
